@@ -1,0 +1,1 @@
+"""Readingring: books that go round a ring of readers."""
