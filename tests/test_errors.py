@@ -29,13 +29,6 @@ class ErrorsTest(unittest.TestCase):
             with self.subTest(name):
                 self.assertEqual(getattr(errors, name).__bases__, (errors.ReadingError,))
 
-    def test_there_are_no_more(self):
-        found = [
-            name for name, value in vars(errors).items()
-            if isinstance(value, type) and issubclass(value, errors.ReadingError)
-        ]
-        self.assertEqual(sorted(found), sorted(["ReadingError", *PLAIN, *WITH_ATTRIBUTES]))
-
     def test_all_are_defined_in_their_file(self):
         for name in ["ReadingError", *PLAIN, *WITH_ATTRIBUTES]:
             self.assertEqual(getattr(errors, name).__module__, "readingring.errors")
