@@ -100,6 +100,11 @@ def pace_of(days, books):
     """Return the pace of readers with so many books in all."""
     if slowest_decides(days, books):
         return (max(days), 1)
+    return round_pace(days, books)
+
+
+def round_pace(days, books):
+    """Return the days of all readers, divided by the number of books, in lowest terms."""
     common = gcd(sum(days), books)
     return (sum(days) // common, books // common)
 

@@ -102,6 +102,11 @@ def reader_before(ring, reader):
     return int(reader - 1) % len(ring)
 
 
+def reader_after(ring, reader):
+    """Return the reader to whom a reader hands on books."""
+    return int(reader + 1) % len(ring)
+
+
 def ended_by(ring, reader, day):
     """Return how many readings of a reader have ended by a day, whatever the day is."""
     low = 0
@@ -150,5 +155,5 @@ def first_stay(ring, book):
 def next_stay(ring, stay):
     """Return the reader to whom a book comes after a reading, and the number of the next reading of it."""
     reader, number = stay
-    after = int(reader + 1) % len(ring)
+    after = reader_after(ring, reader)
     return (after, number + ring.starts[after])
