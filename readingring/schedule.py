@@ -34,8 +34,7 @@ def heap_on(ring, reader, day):
     check_reader(ring, reader)
     check_number(day, 0, LATEST)
     came = ring.starts[reader] + ended_by(ring, reader_before(ring, reader), day)
-    # A reading has begun by a day if it ends by so many days later.
-    return came - ended_by(ring, reader, day + ring.days[reader])
+    return came - begun_by(ring, reader, day)
 
 
 def longest_heap(ring, reader):
@@ -118,6 +117,12 @@ def ended_by(ring, reader, day):
         else:
             high = middle
     return low
+
+
+def begun_by(ring, reader, day):
+    """Return how many readings of a reader have begun by a day."""
+    # A reading has begun by a day if it ends by so many days later.
+    return ended_by(ring, reader, day + ring.days[reader])
 
 
 def repetition(ring):

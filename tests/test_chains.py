@@ -8,9 +8,8 @@ from readingring.chains import chain_of_waits, judge_chain, judge_pace, pace_rea
 from readingring.errors import InvalidChain, InvalidNumber, UnknownReader
 from readingring.rings import Ring
 from tests.play import Play, SPECIAL_RINGS, all_small_rings, random_rings
-from tests.refusals import NO_NUMBERS, refuse
+from tests.refusals import NO_LISTS, NO_NUMBERS, refuse
 
-NO_LISTS = [None, True, False, 0, 1, "", "0", (), (0,), (0, 1), ((0, 0),), ((0, 0), (0, 1))]
 NO_READINGS = [
     None, True, 0, 1, "", "00", [], [0, 0], (), (0,), (0, 0, 0), ((0, 0),), (-1, 0), (3, 0), (8, 0), (0, -1),
     (0, 501), (0, 10 ** 5000), *[(value, 0) for value in NO_NUMBERS], *[(0, value) for value in NO_NUMBERS],
